@@ -1,0 +1,123 @@
+"""Worlds that several tests use, and ways to make and to change values."""
+
+import random
+
+HOUSE = (
+    (("a", (((1, 1, 2),),)),
+     ("b", (((1, 2, 3),), ((1, 3, 4),), ((1, 5, 6),))),
+     ("c", (((1, 2, 3),), ((1, 4, 5),), ((1, 6, 7),)))),
+    (("attic", 1, 3, 9, ((("a", 0), ("b", 0), ("c", 2)),)),
+     ("hall", 1, 3, 9, ((("b", 0), ("c", 0)),))))
+
+# Two ways, a dial that never opens, levels that are too low to be seen, and more below 0.
+YARD = (
+    (("far", ((), ())),
+     ("near", (((2, 5, 7), (4, 2, 3)), ((3, 6, 9),), ())),
+     ("slow", (((1, 4, 8),), ((6, 8, 9),)))),
+    (("barn", 2, 5, 7, ((("near", 0), ("far", 3)), (("slow", -2),))),
+     ("well", 1, 1, 4, ((("far", 0),),))))
+
+
+def one_way(*bands, low=1, high=1, limit=99):
+    """The world and setting of one zone "z" with one way, whose switches have these bands.
+
+    The switches are called a, b, .. in the order of the bands; None is a band that never comes.
+    """
+    names = "abcdefgh"[:len(bands)]
+    curves = [() if pair is None else ((1, *pair),) for pair in bands]
+    switches = tuple((name, (curve,)) for name, curve in zip(names, curves))
+    way = tuple((name, 0) for name in names)
+    return (switches, (("z", low, high, limit, (way,)),)), (0,) * len(bands)
+
+
+def listed(value):
+    """The same value with lists for tuples at every depth."""
+    if isinstance(value, (tuple, list)):
+        return [listed(part) for part in value]
+    return value
+
+
+def tupled(value):
+    """The same value with tuples for lists at every depth."""
+    if isinstance(value, (tuple, list)):
+        return tuple(tupled(part) for part in value)
+    return value
+
+
+def places(value, path=()):
+    """The paths to all parts of a value, its own () ahead."""
+    yield path
+    if isinstance(value, (tuple, list)):
+        for at, part in enumerate(value):
+            yield from places(part, (*path, at))
+
+
+def at_place(value, path):
+    """The part of a value to which the path leads."""
+    for at in path:
+        value = value[at]
+    return value
+
+
+def with_part(value, path, part):
+    """The value with another part at the path."""
+    if not path:
+        return part
+    rows = list(value)
+    rows[path[0]] = with_part(rows[path[0]], path[1:], part)
+    return tuple(rows) if isinstance(value, tuple) else rows
+
+
+def random_curve(source):
+    """A CURVE of at most three triples."""
+    levels = sorted(source.sample(range(1, 6), source.randint(0, 3)))
+    early, width, rows = source.randint(1, 5), source.randint(0, 3), []
+    for level in levels:
+        rows.append((level, early, early + width))
+        early = source.randint(1, early)
+        width = source.randint(0, width)
+    return tuple(rows)
+
+
+def tick_at(curve, level):
+    """The (early, late) of the last triple whose level is not greater, told in another way."""
+    rows = [row for row in curve if row[0] <= level]
+    return rows[-1][1:] if rows else None
+
+
+def is_slower(ahead, later):
+    """Whether at no level from below all triples to beyond them the later one is earlier."""
+    for level in range(-2, 12):
+        first, second = tick_at(ahead, level), tick_at(later, level)
+        if second and (not first or first[0] > second[0] or first[1] > second[1]):
+            return False
+    return True
+
+
+def random_dials(source):
+    """A non-empty tuple of dials as a SWITCH has them."""
+    dials = [random_curve(source)]
+    for curve in [random_curve(source) for _ in range(4)]:
+        if is_slower(dials[-1], curve):
+            dials.append(curve)
+    return tuple(dials)
+
+
+def random_zone(source, name, names):
+    """A ZONE with one or two ways over these switches."""
+    used = source.sample(names, source.randint(1, len(names)))
+    cut = source.randint(1, len(used))
+    ways = [part for part in (used[:cut], used[cut:]) if part]
+    pairs = tuple(tuple((switch, source.randint(-2, 3)) for switch in way) for way in ways)
+    low = source.randint(1, 3)
+    return name, low, source.randint(low, 4), source.randint(1, 7), pairs
+
+
+def random_world(seed):
+    """A WORLD of up to four switches and three zones, and a SETTING of it."""
+    source = random.Random(seed)
+    names = sorted(source.sample(["a", "b", "cc", "d", "zz"], source.randint(1, 4)))
+    switches = tuple((name, random_dials(source)) for name in names)
+    zones = sorted(source.sample(["a", "x", "y"], source.randint(0, 3)))
+    world = switches, tuple(random_zone(source, zone, names) for zone in zones)
+    return world, tuple(source.randrange(len(dials)) for _, dials in switches)

@@ -1,0 +1,109 @@
+"""[2], [13]: what holds for each function, however it is called."""
+
+import copy
+import importlib
+import inspect
+import unittest
+
+from sample import HOUSE, YARD, listed, tupled
+
+CURVE = ((2, 4, 5), (4, 1, 3))
+WAY = {"world": YARD, "setting": (0, 0, 1), "zone": "barn", "level": 4, "way": 0}
+
+# For each function of the interface its file and the arguments of some calls, in order.
+CALLS = [
+    ("data", "is_world", [{"thing": HOUSE}, {"thing": YARD}, {"thing": listed(HOUSE)}, {"thing": ((), [])}]),
+    ("data", "is_setting", [{"world": HOUSE, "thing": (0, 1, 2)}, {"world": HOUSE, "thing": [0, 1, 2]}]),
+    ("data", "band", [{"curve": CURVE, "level": 3}, {"curve": CURVE, "level": 1}, {"curve": (), "level": 1}]),
+    ("data", "sees", [{"world": HOUSE, "zone": "attic", "level": 3}, {"world": YARD, "zone": "barn", "level": 2}]),
+    ("data", "opens", [{"world": HOUSE, "setting": (0, 1, 2), "name": "b", "level": 2}]),
+    ("first", "may_open", [WAY]), ("first", "must_open", [WAY]), ("first", "may_alone", [WAY]),
+    ("first", "must_alone", [WAY]), ("first", "first_sets", [WAY, {**WAY, "setting": (0, 2, 1)}]),
+    ("first", "cut_by", [WAY, {**WAY, "setting": (0, 2, 1)}]),
+    ("first", "spoilt", [{"world": HOUSE, "setting": (0, 1, 1)}, {"world": YARD, "setting": (1, 1, 1)}]),
+    ("first", "is_good", [{"world": HOUSE, "setting": (0, 1, 1)}, {"world": HOUSE, "setting": (0, 1, 2)}]),
+]
+LISTS = ("sees", "may_open", "must_open", "may_alone", "must_alone", "first_sets", "spoilt")
+
+
+def found(file, name):
+    return getattr(importlib.import_module("tripladder." + file), name)
+
+
+def each_call():
+    for file, name, calls in CALLS:
+        for more in calls:
+            yield name, found(file, name), more
+
+
+def spoil(value):
+    """Change every list of a value."""
+    if isinstance(value, (list, tuple)):
+        for part in value:
+            spoil(part)
+    if isinstance(value, list):
+        value.append("more")
+
+
+class EachFunction(unittest.TestCase):
+    def test_stands_in_its_file_with_the_written_parameters(self):
+        for file, name, calls in CALLS:
+            self.assertEqual(found(file, name).__module__, "tripladder." + file)
+            self.assertEqual(list(inspect.signature(found(file, name)).parameters), list(calls[0]))
+
+    def test_by_position_and_by_names(self):
+        for name, call, more in each_call():
+            self.assertEqual(call(*more.values()), call(**more), name)
+
+    def test_a_second_call_gives_an_equal_result(self):
+        for name, call, more in each_call():
+            self.assertEqual(call(**more), call(**more), name)
+
+    def test_lists_for_tuples_and_tuples_for_lists(self):
+        for name, call, more in each_call():
+            kept = {key: value if key == "thing" else listed(value) for key, value in more.items()}
+            self.assertEqual(call(**kept), call(**more), name)
+            kept = {key: value if key == "thing" else tupled(value) for key, value in kept.items()}
+            self.assertEqual(call(**kept), call(**more), name)
+
+    def test_lists_for_some_of_the_tuples(self):
+        for name, call, more in each_call():
+            for key in [key for key in more if key != "thing"]:
+                value = more[key]
+                half = [*value] if isinstance(value, tuple) else value
+                self.assertEqual(call(**{**more, key: half}), call(**more), (name, key))
+
+    def test_the_kinds_of_values_are_kept(self):
+        for name, call, more in each_call():
+            result = call(**more)
+            self.assertEqual(isinstance(result, list), name in LISTS, name)
+            lists = {key: value if key == "thing" else listed(value) for key, value in more.items()}
+            self.assertEqual(repr(call(**lists)), repr(result), name)
+
+    def test_arguments_are_unchanged(self):
+        for name, call, more in each_call():
+            lists = {key: listed(value) for key, value in more.items()}
+            before = copy.deepcopy(lists)
+            call(**lists)
+            self.assertEqual(lists, before, name)
+            self.assertEqual(repr(lists), repr(before), name)
+
+    def test_returned_lists_belong_to_the_caller(self):
+        for name, call, more in each_call():
+            for given in (more, {key: listed(value) for key, value in more.items() if key != "thing"}):
+                if list(given) == list(more):
+                    before, kept = copy.deepcopy(call(**given)), copy.deepcopy(given)
+                    spoil(call(**given))
+                    self.assertEqual(given, kept, name)
+                    self.assertEqual(call(**given), before, name)
+
+    def test_returned_values_may_be_passed_in_again(self):
+        curve = [found("data", "opens")(HOUSE, (0, 1, 2), "b", 2)]
+        self.assertEqual(found("data", "band")([(1, *curve[0])], 1), (3, 4))
+        for zone, level, way, switch in found("first", "spoilt")(HOUSE, (0, 0, 0)):
+            may = found("first", "may_open")(HOUSE, (0, 0, 0), zone, level, way)
+            self.assertIn(switch, may)
+
+
+if __name__ == "__main__":
+    unittest.main()

@@ -1,0 +1,1 @@
+"""Tripladder: which breaker lets go first."""
