@@ -17,6 +17,13 @@ YARD = (
     (("barn", 2, 5, 7, ((("near", 0), ("far", 3)), (("slow", -2),))),
      ("well", 1, 1, 4, ((("far", 0),),))))
 
+TICK = (((1, 1, 1),), ((1, 2, 2),), ((1, 3, 3),))
+
+# Two switches, each of which must wait for the other one.
+PAIR = (
+    (("p", TICK), ("q", TICK)),
+    (("x", 1, 1, 9, ((("p", 0), ("q", 0)),)), ("y", 1, 1, 9, ((("q", 0), ("p", 0)),))))
+
 
 def one_way(*bands, low=1, high=1, limit=99):
     """The world and setting of one zone "z" with one way, whose switches have these bands.
@@ -121,3 +128,38 @@ def random_world(seed):
     zones = sorted(source.sample(["a", "x", "y"], source.randint(0, 3)))
     world = switches, tuple(random_zone(source, zone, names) for zone in zones)
     return world, tuple(source.randrange(len(dials)) for _, dials in switches)
+
+
+def ladder(source):
+    """Two to four dials, each slower by some ticks than the one ahead; the last one may be ()."""
+    early, width, dials = source.randint(1, 3), source.randint(0, 1), []
+    for _ in range(source.randint(2, 4)):
+        row = ((1, early, early + width),) + ((3, early, early),) * source.randint(0, 1)
+        if not dials or is_slower(dials[-1], row):
+            dials.append(row)
+        early += width + source.randint(0, 2)
+    return tuple(dials) + ((),) * (source.random() < 0.2)
+
+
+def ladder_world(seed):
+    """A WORLD of two to four switches that often wait for one another, and a SETTING of it."""
+    source = random.Random(seed)
+    names = sorted(source.sample(["a", "b", "cc", "d", "zz"], source.randint(2, 4)))
+    switches = tuple((name, ladder(source)) for name in names)
+    zones = []
+    for zone in sorted(source.sample(["a", "x", "y"], source.randint(1, 3))):
+        used = source.sample(names, source.randint(2, len(names)))
+        ways = [used[:2], used[2:]] if source.random() < 0.3 else [used]
+        rows = tuple(tuple((name, source.randint(0, 2)) for name in way) for way in ways if way)
+        zones.append((zone, 1, source.randint(1, 2), source.randint(4, 11), rows))
+    return (switches, tuple(zones)), tuple(source.randrange(len(dials)) for _, dials in switches)
+
+
+def large_world(orders=("abcdef", "bcdfae", "cdefab", "aefbcd", "bdecfa", "cfdeba"), high=12, limit=60):
+    """A WORLD of 6 switches with 4 dials and of a zone for each order, the first four of it on one way."""
+    dials = tuple(((1, 10 * dial + 2, 10 * dial + 4), (5, 10 * dial + 1, 10 * dial + 1)) for dial in range(4))
+    zones = []
+    for zone, order in zip("rstuvw", orders):
+        long = tuple((name, at) for at, name in enumerate(order[:4]))
+        zones.append((zone, 1, high, limit, (long, ((order[4], 0),), ((order[5], 99),))))
+    return tuple((name, dials) for name in "abcdef"), tuple(zones)

@@ -1,4 +1,4 @@
-"""The examples of [4] and [5], word for word, and those of README.md."""
+"""The examples of [4] to [8], word for word, and those of README.md."""
 
 import doctest
 import pathlib
@@ -10,6 +10,10 @@ WORDS = r"""
     >>> from tripladder.data import band, is_setting, is_world, opens, sees
     >>> from tripladder.first import cut_by, first_sets, is_good, may_alone, may_open, must_alone
     >>> from tripladder.first import must_open, spoilt
+    >>> from tripladder.dials import chain, changed, fewest_changes, first_ones, greatest_setting, how_many, is_chain
+    >>> from tripladder.dials import least_setting, waits
+    >>> from tripladder.shapes import ring_world, tree_world
+    >>> from tripladder.heat import forever, gains, heats, least_pause, melt, never, shortest
 
     >>> house = ((("a", (((1, 1, 2),),)), ("b", (((1, 2, 3),), ((1, 3, 4),), ((1, 5, 6),))), ("c", (((1, 2, 3),), ((1, 4, 5),), ((1, 6, 7),)))), (("attic", 1, 3, 9, ((("a", 0), ("b", 0), ("c", 2)),)), ("hall", 1, 3, 9, ((("b", 0), ("c", 0)),))))
     >>> sees(house, "attic", 3), opens(house, (0, 1, 2), "b", 2), band(((2, 4, 5), (4, 1, 3)), 3), band(((2, 4, 5), (4, 1, 3)), 1)
@@ -19,6 +23,27 @@ WORDS = r"""
     (['a', 'b', 'c'], ['a'], ['a'], [])
     >>> first_sets(house, (0, 0, 0), "attic", 1, 0), cut_by(house, (0, 0, 0), "attic", 1, 0), spoilt(house, (0, 1, 1)), is_good(house, (0, 1, 2))
     ([('a',), ('a', 'b'), ('a', 'b', 'c'), ('a', 'c')], 2, [('hall', 1, 0, 'c'), ('hall', 2, 0, 'c'), ('hall', 3, 0, 'c')], True)
+
+    >>> least_setting(house), greatest_setting(house), how_many(house), chain(house), waits(house), first_ones(house)
+    ((0, 1, 2), (0, 1, 2), 1, None, [('a', 'b'), ('a', 'c'), ('b', 'c')], ())
+    >>> tick = (((1, 1, 1),), ((1, 2, 2),), ((1, 3, 3),))
+    >>> pair = ((("p", tick), ("q", tick)), (("x", 1, 1, 9, ((("p", 0), ("q", 0)),)), ("y", 1, 1, 9, ((("q", 0), ("p", 0)),))))
+    >>> is_chain(pair, (("x", 1, 0, "q", 1), ("y", 1, 0, "p", 2), ("x", 1, 0, "q", 3))), least_setting(pair), first_ones(pair), fewest_changes(house, (0, 2, 2)), changed(house, (0, 2, 2))
+    (True, None, ('p',), 1, (0, 1, 2))
+
+    >>> tree = tree_world((("a", tick), ("b", tick), ("c", tick)), (("a", "c", 2, 1, 2, 9), ("b", "c", 3, 1, 2, 9), ("c", "", 1, 1, 2, 9)))
+    >>> tree[1][0], tree[1][2], least_setting(tree)
+    (('a', 1, 2, 9, ((('a', 0), ('c', 4)),)), ('c', 1, 2, 9, ((('c', 0),),)), (0, 0, 1))
+    >>> ring = ring_world(("x", "y"), tick, 1, 1, 9)
+    >>> [row[4] for row in ring[1]], least_setting(ring)
+    ([((('xa', 0),), (('xb', 0), ('yb', 0))), ((('ya', 0), ('xa', 0)), (('yb', 0),))], (1, 0, 0, 1))
+
+    >>> heaters = (("c", 5, ((1, 1),), 1),)
+    >>> lamps = (("attic", 1, 1),) * 5
+    >>> heats(house, (0, 1, 2), heaters, lamps), melt(house, (0, 1, 2), heaters, lamps), gains(house, (0, 1, 2), heaters), shortest(house, (0, 1, 2), heaters, 1)
+    ([(2,), (3,), (4,)], (3, 'c'), [4], 2)
+    >>> never(house, (0, 1, 2), heaters, 3), never(house, (0, 1, 2), heaters, 4), least_pause(house, (0, 1, 2), heaters), forever(house, (0, 1, 2), heaters, (("attic", 1, 1), ("attic", 1, 3)))
+    (False, True, 4, True)
 
     >>> is_world(house), is_setting(house, (0, 1, 2))
     (True, True)

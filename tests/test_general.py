@@ -5,10 +5,22 @@ import importlib
 import inspect
 import unittest
 
-from sample import HOUSE, YARD, listed, tupled
+from sample import HOUSE, PAIR, TICK, YARD, listed, tupled
 
 CURVE = ((2, 4, 5), (4, 1, 3))
 WAY = {"world": YARD, "setting": (0, 0, 1), "zone": "barn", "level": 4, "way": 0}
+WORLDS = [{"world": HOUSE}, {"world": PAIR}, {"world": YARD}, {"world": (HOUSE[0], ())}]
+SETTINGS = [{"world": HOUSE, "setting": (0, 1, 1)}, {"world": HOUSE, "setting": (0, 2, 1)},
+            {"world": PAIR, "setting": (0, 1)}]
+STEPS = (("x", 1, 0, "q", 1), ("y", 1, 0, "p", 2), ("x", 1, 0, "q", 3))
+TREE = {"switches": tuple((name, TICK) for name in "abc"),
+        "wires": (("a", "c", 2, 1, 2, 9), ("b", "c", 3, 1, 2, 9), ("c", "", 1, 1, 2, 9))}
+RING = {"names": ("y", "x"), "dials": (((1, 2, 3), (4, 1, 1)), ()), "low": 1, "high": 3, "limit": 9}
+HOT = {"world": HOUSE, "setting": (0, 1, 2), "heaters": (("a", 9, ((1, 1), (2, 2)), 2), ("c", 5, ((1, 1),), 1))}
+HOTTER = {**HOT, "heaters": (("b", 3, ((2, 1),), 1),)}
+ROWS = [{**HOT, "row": (("attic", 1, 1), ("hall", 2, 0), ("attic", 3, 2))}, {**HOTTER, "row": (("attic", 1, 3),)},
+        {**HOTTER, "row": ()}]
+PAUSES = [{**HOT, "pause": 0}, {**HOT, "pause": 4}, {**HOTTER, "pause": 1}]
 
 # For each function of the interface its file and the arguments of some calls, in order.
 CALLS = [
@@ -22,8 +34,17 @@ CALLS = [
     ("first", "cut_by", [WAY, {**WAY, "setting": (0, 2, 1)}]),
     ("first", "spoilt", [{"world": HOUSE, "setting": (0, 1, 1)}, {"world": YARD, "setting": (1, 1, 1)}]),
     ("first", "is_good", [{"world": HOUSE, "setting": (0, 1, 1)}, {"world": HOUSE, "setting": (0, 1, 2)}]),
+    ("dials", "least_setting", WORLDS), ("dials", "greatest_setting", WORLDS), ("dials", "how_many", WORLDS),
+    ("dials", "raised", SETTINGS), ("dials", "held", [{**SETTINGS[0], "names": ("a", "b")}, {**SETTINGS[2], "names": ()}]),
+    ("dials", "fewest_changes", SETTINGS), ("dials", "changed", SETTINGS), ("dials", "chain", WORLDS),
+    ("dials", "is_chain", [{"world": PAIR, "thing": STEPS}, {"world": PAIR, "thing": listed(STEPS)}]),
+    ("dials", "waits", WORLDS), ("dials", "first_ones", WORLDS),
+    ("shapes", "tree_world", [TREE, {"switches": (), "wires": ()}]), ("shapes", "ring_world", [RING]),
+    ("heat", "heats", ROWS), ("heat", "melt", ROWS), ("heat", "gains", [HOT, HOTTER]),
+    ("heat", "never", PAUSES), ("heat", "shortest", PAUSES), ("heat", "least_pause", [HOT, HOTTER]),
+    ("heat", "forever", ROWS),
 ]
-LISTS = ("sees", "may_open", "must_open", "may_alone", "must_alone", "first_sets", "spoilt")
+LISTS = ("sees", "may_open", "must_open", "may_alone", "must_alone", "first_sets", "spoilt", "waits", "heats", "gains")
 
 
 def found(file, name):
@@ -103,6 +124,17 @@ class EachFunction(unittest.TestCase):
         for zone, level, way, switch in found("first", "spoilt")(HOUSE, (0, 0, 0)):
             may = found("first", "may_open")(HOUSE, (0, 0, 0), zone, level, way)
             self.assertIn(switch, may)
+
+    def test_settings_chains_and_worlds_may_be_passed_in_again(self):
+        for make, more in (("tree_world", TREE), ("ring_world", RING)):
+            for given in (more, {key: listed(value) for key, value in more.items()}):
+                world = found("shapes", make)(**given)
+                self.assertIs(found("data", "is_world")(world), True)
+                setting = found("dials", "least_setting")(world)
+                self.assertIs(setting is None or found("data", "is_setting")(world, setting), True)
+        for world in (PAIR, listed(PAIR)):
+            self.assertIs(found("dials", "is_chain")(world, found("dials", "chain")(world)), True)
+            self.assertEqual(found("dials", "held")(HOUSE, (0, 1, 2), found("dials", "first_ones")(HOUSE)), (0, 1, 2))
 
 
 if __name__ == "__main__":

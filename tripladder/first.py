@@ -94,13 +94,21 @@ def cut_by(world, setting, zone, level, way):
     return least_late(openers(world, setting, zone, level, way))
 
 
+def is_unfit(ticks, limit):
+    """Whether a nearest with this band spoils: it never opens, or opens behind the limit."""
+    return ticks is None or ticks[1] > limit
+
+
+def is_rash(ticks, own):
+    """Whether another one with this band spoils, where the nearest has the band `own`."""
+    return ticks is not None and own is not None and ticks[0] <= own[1]
+
+
 def spoilers(pairs, limit):
     """The switches that spoil a way, from its pairs (switch, band), the nearest ahead."""
     nearest, own = pairs[0]
-    if own is None:
-        return [nearest]
-    found = [name for name, ticks in pairs[1:] if ticks is not None and ticks[0] <= own[1]]
-    if own[1] > limit:
+    found = [name for name, ticks in pairs[1:] if is_rash(ticks, own)]
+    if is_unfit(own, limit):
         found.append(nearest)
     return found
 
