@@ -1,5 +1,6 @@
 """Worlds that several tests use, and ways to make and to change values."""
 
+import itertools
 import random
 
 HOUSE = (
@@ -163,3 +164,54 @@ def large_world(orders=("abcdef", "bcdfae", "cdefab", "aefbcd", "bdecfa", "cfdeb
         long = tuple((name, at) for at, name in enumerate(order[:4]))
         zones.append((zone, 1, high, limit, (long, ((order[4], 0),), ((order[5], 99),))))
     return tuple((name, dials) for name in "abcdef"), tuple(zones)
+
+
+def broad_dials(source):
+    """One or two dials that open at each level from 1 on, in bands that often overlap those of others."""
+    early, width = source.randint(1, 3), source.randint(0, 3)
+    slow = ((1, early + 1, early + width + 1), (3, early, early + width))
+    return (((1, early, early + width),), slow)[:source.randint(1, 2)]
+
+
+def wide_world(seed):
+    """A WORLD of three to five switches and two or three zones of up to three ways, and a SETTING of it."""
+    source = random.Random(seed)
+    names = sorted(source.sample(["a", "b", "cc", "d", "zz"], source.randint(3, 5)))
+    make = random_dials if seed % 4 == 0 else broad_dials
+    switches = tuple((name, make(source)) for name in names)
+    zones = []
+    for zone in sorted(source.sample(["a", "x", "y"], source.randint(2, 3))):
+        used = source.sample(names, source.randint(1, len(names)))
+        cuts = sorted(source.sample(range(1, len(used)), min(source.randint(0, 2), len(used) - 1)))
+        parts = [used[low:high] for low, high in zip([0, *cuts], [*cuts, len(used)])]
+        ways = tuple(tuple((name, source.randint(-2, 3)) for name in part) for part in parts)
+        low = source.randint(1, 3)
+        zones.append((zone, low, source.randint(low, 4), source.randint(1, 7), ways))
+    return (switches, tuple(zones)), tuple(source.randrange(len(dials)) for _, dials in switches)
+
+
+def curves_of(world, setting):
+    """The dict that has for each switch the curve of its dial."""
+    return {name: dials[dial] for (name, dials), dial in zip(world[0], setting)}
+
+
+def some_of(source, names):
+    """An ascending tuple of some of the names."""
+    return tuple(sorted(source.sample(names, source.randint(0, len(names)))))
+
+
+def first_cases(curves, way, level, stuck):
+    """The sets of first ones of a way, as tuples in its order, by going through all ticks of all bands."""
+    bands = {name: tick_at(curves[name], level + more) for name, more in way if name not in stuck}
+    bands = {name: range(ticks[0], ticks[1] + 1) for name, ticks in bands.items() if ticks}
+    cases = [dict(zip(bands, ticks)) for ticks in itertools.product(*bands.values())]
+    return {tuple(name for name in case if case[name] == min(case.values())) for case in cases}
+
+
+def dark_by_words(world, names):
+    """The zones that must be dark by the words of the document."""
+    found = []
+    for name, low, high, limit, ways in world[1]:
+        if all(set(names) & {switch for switch, _ in way} for way in ways):
+            found.append(name)
+    return found

@@ -1,4 +1,4 @@
-"""The examples of [4] to [8], word for word, and those of README.md."""
+"""The examples of [4] to [12], word for word, and those of README.md."""
 
 import doctest
 import pathlib
@@ -14,6 +14,10 @@ WORDS = r"""
     >>> from tripladder.dials import least_setting, waits
     >>> from tripladder.shapes import ring_world, tree_world
     >>> from tripladder.heat import forever, gains, heats, least_pause, melt, never, shortest
+    >>> from tripladder.stuck import after, dark, may_dark, must_dark, worst_stuck
+    >>> from tripladder.wires import fewest_wires, needed, spoilt_by
+    >>> from tripladder.texts import row_text, setting_in, setting_text, world_in, world_text
+    >>> from tripladder.desk import answers
 
     >>> house = ((("a", (((1, 1, 2),),)), ("b", (((1, 2, 3),), ((1, 3, 4),), ((1, 5, 6),))), ("c", (((1, 2, 3),), ((1, 4, 5),), ((1, 6, 7),)))), (("attic", 1, 3, 9, ((("a", 0), ("b", 0), ("c", 2)),)), ("hall", 1, 3, 9, ((("b", 0), ("c", 0)),))))
     >>> sees(house, "attic", 3), opens(house, (0, 1, 2), "b", 2), band(((2, 4, 5), (4, 1, 3)), 3), band(((2, 4, 5), (4, 1, 3)), 1)
@@ -45,8 +49,22 @@ WORDS = r"""
     >>> never(house, (0, 1, 2), heaters, 3), never(house, (0, 1, 2), heaters, 4), least_pause(house, (0, 1, 2), heaters), forever(house, (0, 1, 2), heaters, (("attic", 1, 1), ("attic", 1, 3)))
     (False, True, 4, True)
 
-    >>> is_world(house), is_setting(house, (0, 1, 2))
-    (True, True)
+    >>> after(house, (0, 1, 2), "attic", 1, ()), after(house, (0, 1, 2), "attic", 1, ("a",)), dark(house, ("b",)), may_dark(house, (0, 1, 2), "attic", 1, ("a",)), worst_stuck(house, (0, 1, 2), "attic", 1)
+    ([('a',)], [('b',)], ['attic', 'hall'], ['attic', 'hall'], (2, 'a'))
+
+    >>> fewest_wires(house, (0, 1, 1), 2), fewest_wires(house, (0, 0, 0), 3), spoilt_by(house, (0, 1, 1), (("b", "c", 1),)), needed(house, (0, 1, 2), (("b", "c", 2),))
+    ((('b', 'c', 2),), (('a', 'b', 3), ('b', 'c', 3)), [], [])
+
+    >>> world_text(pair), setting_text((0, 2)), row_text((("attic", 1, 1), ("hall", 3, 0)))
+    ('p 1:1-1 1:2-2 1:3-3\nq 1:1-1 1:2-2 1:3-3\n@x 1 1 9 p+0>q+0\n@y 1 1 9 q+0>p+0', '0,2', 'attic/1/1 hall/3/0')
+
+    >>> answers("p 1:1-1 1:2-2 1:3-3\nq 1:1-1 1:2-2 1:3-3\n@x 1 1 9 p+0>q+0\n@y 1 1 9 q+0\n\ngood\nspoilt\nfirst x 1 0\nleast\ndials\ngood\nfault x 1\nopen\ndark\nfault x 1\nfault y 1\nopen\ndark\nclose p\nclose q\nstick p\nfirst x 1 0\ndial q 3\nfault z 1\nfault x 2\nclose a")
+    ['no', '1', 'p q', 'done', '0,1', 'yes', 'p', 'p', 'x', '-', 'q', 'p q', 'x y', 'done', 'done', 'done', 'q', 'refused NoDial', 'refused NoZone', 'refused NoLevel', 'refused NoSwitch']
+
+    >>> is_world(house), is_setting(house, (0, 1, 2)), must_dark(house, (0, 1, 2), "attic", 1, ("a",))
+    (True, True, ['attic', 'hall'])
+    >>> world_in(world_text(pair)) == pair, setting_in(pair, "0,2"), world_in("")
+    (True, (0, 2), ((), ()))
 """
 
 

@@ -6,6 +6,7 @@ import inspect
 import unittest
 
 from sample import HOUSE, PAIR, TICK, YARD, listed, tupled
+from tripladder.texts import world_text
 
 CURVE = ((2, 4, 5), (4, 1, 3))
 WAY = {"world": YARD, "setting": (0, 0, 1), "zone": "barn", "level": 4, "way": 0}
@@ -21,6 +22,12 @@ HOTTER = {**HOT, "heaters": (("b", 3, ((2, 1),), 1),)}
 ROWS = [{**HOT, "row": (("attic", 1, 1), ("hall", 2, 0), ("attic", 3, 2))}, {**HOTTER, "row": (("attic", 1, 3),)},
         {**HOTTER, "row": ()}]
 PAUSES = [{**HOT, "pause": 0}, {**HOT, "pause": 4}, {**HOTTER, "pause": 1}]
+STUCK = [{**WAY, "stuck": ("far",)}, {**WAY, "stuck": ()}, {**WAY, "setting": (0, 1, 1), "stuck": ("near", "slow")}]
+STUCK = [{key: value for key, value in more.items() if key != "way"} for more in STUCK]
+WIRES = [{"world": HOUSE, "setting": (0, 0, 0), "wires": (("a", "b", 3), ("b", "c", 3))},
+         {"world": HOUSE, "setting": (0, 1, 1), "wires": (("a", "b", 1), ("b", "c", 1))},
+         {"world": YARD, "setting": (0, 0, 1), "wires": ()}]
+DESK = world_text(PAIR) + "\n\ngood\nfault x 1\nopen\nfault z 1\nclose p\nstick p\nfault y 1\ndials"
 
 # For each function of the interface its file and the arguments of some calls, in order.
 CALLS = [
@@ -43,8 +50,19 @@ CALLS = [
     ("heat", "heats", ROWS), ("heat", "melt", ROWS), ("heat", "gains", [HOT, HOTTER]),
     ("heat", "never", PAUSES), ("heat", "shortest", PAUSES), ("heat", "least_pause", [HOT, HOTTER]),
     ("heat", "forever", ROWS),
+    ("stuck", "after", STUCK), ("stuck", "may_dark", STUCK), ("stuck", "must_dark", STUCK),
+    ("stuck", "dark", [{"world": HOUSE, "names": ("a", "b")}, {"world": YARD, "names": ("far",)}]),
+    ("stuck", "worst_stuck", [{key: WAY[key] for key in ("world", "setting", "zone", "level")}]),
+    ("wires", "spoilt_by", WIRES), ("wires", "needed", WIRES),
+    ("wires", "fewest_wires", [{"world": HOUSE, "setting": (0, 0, 0), "ticks": ticks} for ticks in (1, 3)]),
+    ("texts", "world_text", WORLDS), ("texts", "world_in", [{"text": world_text(YARD)}, {"text": ""}]),
+    ("texts", "setting_text", [{"setting": (0, 12)}, {"setting": ()}]),
+    ("texts", "setting_in", [{"world": HOUSE, "text": "0,1,2"}, {"world": ((), ()), "text": "-"}]),
+    ("texts", "row_text", [{"row": (("attic", 1, 0), ("hall", 12, 9))}, {"row": ()}]),
+    ("desk", "answers", [{"text": DESK}, {"text": ""}]),
 ]
-LISTS = ("sees", "may_open", "must_open", "may_alone", "must_alone", "first_sets", "spoilt", "waits", "heats", "gains")
+LISTS = ("sees", "may_open", "must_open", "may_alone", "must_alone", "first_sets", "spoilt", "waits", "heats", "gains",
+         "after", "dark", "may_dark", "must_dark", "spoilt_by", "needed", "answers")
 
 
 def found(file, name):
@@ -135,6 +153,18 @@ class EachFunction(unittest.TestCase):
         for world in (PAIR, listed(PAIR)):
             self.assertIs(found("dials", "is_chain")(world, found("dials", "chain")(world)), True)
             self.assertEqual(found("dials", "held")(HOUSE, (0, 1, 2), found("dials", "first_ones")(HOUSE)), (0, 1, 2))
+
+    def test_wires_open_ones_and_texts_may_be_passed_in_again(self):
+        for ticks in (1, 3, 9):
+            wires = found("wires", "fewest_wires")(HOUSE, (0, 0, 0), ticks)
+            self.assertEqual(found("wires", "spoilt_by")(HOUSE, (0, 0, 0), wires or ()) == [], wires is not None)
+            kept = found("wires", "needed")(HOUSE, (0, 0, 0), wires or ())
+            self.assertEqual(found("wires", "needed")(HOUSE, (0, 0, 0), kept), list(wires or ()))
+        for names in found("stuck", "after")(HOUSE, (0, 0, 0), "attic", 1, ()):
+            self.assertIn("attic", found("stuck", "dark")(HOUSE, names))
+        world = found("texts", "world_in")(found("texts", "world_text")(listed(HOUSE)))
+        setting = found("texts", "setting_in")(world, found("texts", "setting_text")([0, 1, 2]))
+        self.assertIs(found("first", "is_good")(world, setting), True)
 
 
 if __name__ == "__main__":

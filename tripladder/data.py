@@ -133,6 +133,14 @@ def is_setting(world, thing):
     return all([is_dial(part, switch[1]) for part, switch in zip(thing, switches)])
 
 
+def check_switches(world, names):
+    """Raise NoSwitch for the first of the names that is no switch."""
+    known = names_of(world[0])
+    for name in names:
+        if name not in known:
+            raise NoSwitch(name)
+
+
 def band(curve, level):
     """The pair (early, late) at a level that is seen; None if it never opens."""
     found = None

@@ -2,8 +2,7 @@
 
 from itertools import combinations
 
-from tripladder.data import is_filled, is_number, is_row, names_of
-from tripladder.errors import NoSwitch
+from tripladder.data import check_switches, is_filled, is_number, is_row, names_of
 from tripladder.first import is_rash, is_unfit
 from tripladder.rules import climb, good_ones, is_fit, looks, needs_of, rules_of
 from tripladder.rules import settled, settled_without, sunk, tops_of
@@ -41,10 +40,8 @@ def raised(world, setting):
 
 def held(world, setting, names):
     """The least good setting in which each of the names has its dial of this one; None if there is none."""
+    check_switches(world, names)
     given = dials_of(world, setting)
-    for name in names:
-        if name not in given:
-            raise NoSwitch(name)
     free = [name for name in given if name not in names]
     return settled_without(rules_of(world), given, free)
 

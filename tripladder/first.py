@@ -113,22 +113,24 @@ def spoilers(pairs, limit):
     return found
 
 
-def spoilt_at(world, setting, zone, level, limit):
-    """The tuples (zone, level, way, switch) of one fault."""
+def all_ways(world, setting):
+    """For each way at each fault a row ((zone, level, way), limit, pairs (switch, band))."""
     found = []
-    for way, seen in enumerate(sees(world, zone, level)):
-        names = spoilers(seen_bands(world, setting, seen), limit)
-        found.extend([(zone, level, way, name) for name in names])
+    for zone, low, high, limit, ways in world[1]:
+        for level in range(low, high + 1):
+            for way, seen in enumerate(sees(world, zone, level)):
+                found.append(((zone, level, way), limit, seen_bands(world, setting, seen)))
     return found
+
+
+def spoilt_in(rows):
+    """The tuples (zone, level, way, switch) of those that spoil in such rows, ascending."""
+    return sorted([(*place, name) for place, limit, pairs in rows for name in spoilers(pairs, limit)])
 
 
 def spoilt(world, setting):
     """The tuples (zone, level, way, switch) for each nearest or other one that spoils, ascending."""
-    found = []
-    for zone, low, high, limit, ways in world[1]:
-        for level in range(low, high + 1):
-            found.extend(spoilt_at(world, setting, zone, level, limit))
-    return sorted(found)
+    return spoilt_in(all_ways(world, setting))
 
 
 def is_good(world, setting):
